@@ -1,6 +1,6 @@
-"""What pages, styles and lines can be, and the refusal of all else."""
+"""What pages, rows, styles and lines can be, and the refusal of all else."""
 
-from tabgrow.errors import BadLines, BadPage, BadStyle
+from tabgrow.errors import BadLines, BadPage, BadRow, BadStyle
 
 MOST_ROWS = 30
 MOST_CELLS = 6
@@ -13,6 +13,8 @@ BLANK = 32
 TILDE = 126
 # The percent sign is no sign, and it may not stand in a string of the program.
 PERCENT = 37
+TAB = "\t"
+LINE_END = "\n"
 
 
 def is_whole(value, low, high):
@@ -45,6 +47,12 @@ def check_page(page):
     for number, row in enumerate(page):
         if number == MOST_ROWS or not is_row(row):
             raise BadPage(number)
+
+
+def check_row(row):
+    """Refuse what is no row."""
+    if not is_row(row):
+        raise BadRow("a row is a tuple of one to six cells")
 
 
 def check_style(style):

@@ -18,6 +18,18 @@ INTERFACE = {
         "stops": ["page", "style"], "laid": ["page", "style"], "shown": ["page", "style"],
         "read_back": ["lines", "told"], "guessed": ["lines"], "judged": ["page", "style", "told"],
     },
+    "routes": {"route": ["page", "other"], "stepped": ["page", "style", "steps"]},
+}
+CLASSES = {
+    ("sheets", "Sheet"): {
+        "__init__": ["page", "style"], "put": ["number", "row"], "take": ["number"], "change": ["number", "row"],
+        "strike": ["number", "cell", "place", "sign"], "erase": ["number", "cell", "place"],
+        "part": ["number", "cell", "place"], "unite": ["number"], "page": [], "begins": [], "back": [],
+    },
+    ("cursors", "Cursor"): {
+        "__init__": ["page", "style"], "at": [], "aside": [], "left": [], "right": [], "up": [], "down": [],
+        "back": [], "press": ["sign"], "rub": [], "page": [],
+    },
 }
 BUILTINS = set("""len range enumerate zip min max sum abs sorted reversed int str bool bytes list tuple dict set
     frozenset isinstance ord repr any all divmod iter next super property staticmethod classmethod
@@ -75,6 +87,16 @@ class Interface(unittest.TestCase):
                        for node in tree.body if isinstance(node, ast.FunctionDef)}
             for name, arguments in functions.items():
                 self.assertEqual(defined.get(name), arguments, name)
+
+    def test_classes_and_their_methods_are_defined_in_their_files(self):
+        for (module, name), methods in CLASSES.items():
+            tree = ast.parse((FOLDER / f"{module}.py").read_text())
+            bodies = [node.body for node in tree.body if isinstance(node, ast.ClassDef) and node.name == name]
+            self.assertEqual(len(bodies), 1, name)
+            defined = {node.name: [each.arg for each in node.args.args]
+                       for node in bodies[0] if isinstance(node, ast.FunctionDef)}
+            for method, arguments in methods.items():
+                self.assertEqual(defined.get(method), ["self"] + arguments, (name, method))
 
 
 class Files(unittest.TestCase):
@@ -143,6 +165,12 @@ class Rules(unittest.TestCase):
         for name, node in nodes(ast.Call):
             if isinstance(node.func, ast.Attribute):
                 self.assertIn(node.func.attr, METHODS | own, (name, node.lineno))
+
+    def test_no_name_is_a_method_and_an_attribute(self):
+        methods = {each.name for _, node in nodes(ast.ClassDef) for each in node.body
+                   if isinstance(each, ast.FunctionDef)}
+        attributes = {node.attr for _, node in nodes(ast.Attribute) if isinstance(node.ctx, ast.Store)}
+        self.assertEqual(methods & attributes, set())
 
     def test_strings_and_numbers(self):
         for name, node in nodes(ast.Constant):

@@ -2,7 +2,10 @@
 
 import unittest
 
+from tabgrow.cursors import Cursor
 from tabgrow.laying import judged, laid, shown, stops
+from tabgrow.routes import stepped
+from tabgrow.sheets import Sheet
 from tabgrow.stretches import stretches
 from tests.common import NO_LISTS, GrowCase
 
@@ -12,8 +15,25 @@ def judged_by_none(page, style):
     return judged(page, style, None)
 
 
-ASKED = (stretches, stops, laid, shown, judged_by_none)
-TELLING = (stretches, stops, laid, shown)
+def stepped_by_none(page, style):
+    """stepped, of steps that can't be: the page and the style are refused ahead of them."""
+    return stepped(page, style, [None])
+
+
+def sheet_told(page, style):
+    """What a sheet tells that has just been made."""
+    sheet = Sheet(page, style)
+    return sheet.page(), sheet.begins()
+
+
+def cursor_told(page, style):
+    """What a cursor tells that has just been made."""
+    cursor = Cursor(page, style)
+    return cursor.page(), cursor.at(), cursor.aside()
+
+
+ASKED = (stretches, stops, laid, shown, judged_by_none, Sheet, Cursor, stepped_by_none)
+TELLING = (stretches, stops, laid, shown, sheet_told, cursor_told)
 GOOD = ("a", "b")
 
 
