@@ -33,6 +33,11 @@ def is_text_of_signs(value, most):
     return isinstance(value, str) and len(value) <= most and all(is_sign(sign) for sign in value)
 
 
+def is_filled(value, most):
+    """Tell whether a value is a text of at most so many signs, and of one at least."""
+    return is_text_of_signs(value, most) and value != ""
+
+
 def is_row(value):
     """Tell whether a value is a row."""
     if not isinstance(value, tuple) or not 1 <= len(value) <= MOST_CELLS:
@@ -40,13 +45,21 @@ def is_row(value):
     return all(is_text_of_signs(cell, MOST_SIGNS) for cell in value)
 
 
+def first_misfit(rows):
+    """Tell the number of the first of some rows that a page can't have, or None."""
+    for number, row in enumerate(rows):
+        if number == MOST_ROWS or not is_row(row):
+            return number
+    return None
+
+
 def check_page(page):
     """Refuse what is no page."""
     if not isinstance(page, list) or len(page) == 0:
         raise BadPage(0)
-    for number, row in enumerate(page):
-        if number == MOST_ROWS or not is_row(row):
-            raise BadPage(number)
+    number = first_misfit(page)
+    if number is not None:
+        raise BadPage(number)
 
 
 def check_row(row):

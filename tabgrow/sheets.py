@@ -1,6 +1,6 @@
 """Sheets: a page that is changed deed by deed; each tells what it moves, and can be taken back."""
 
-from tabgrow.checks import MOST_ROWS, TAB, check_page, check_row, check_style, is_row, is_text_of_signs, is_whole
+from tabgrow.checks import MOST_ROWS, TAB, check_page, check_row, check_style, is_filled, is_row, is_whole
 from tabgrow.errors import BadCell, BadRow
 from tabgrow.laying import laid
 
@@ -92,7 +92,7 @@ def check_number(number, last):
 
 def check_sign(sign):
     """Refuse what is neither a sign nor a tab."""
-    if sign != TAB and not (is_text_of_signs(sign, 1) and sign != ""):
+    if sign != TAB and not is_filled(sign, 1):
         raise BadCell("a sign is a text of one, from the blank to the tilde but the percent sign, or a tab")
 
 

@@ -14,6 +14,10 @@ REFUSALS = {
 # Things that are no page, no style, no lines and no list of lists, whatever stands in them.
 NO_LISTS = (None, True, False, 0, 1, -1, 30, "", "a", "ab", "12", (), (("a",),), ("a", "b"), ([0],), ((), ()))
 
+# Things that are no line, and signs that stand in none.
+NO_LINES = (None, True, False, 0, 5, (), ("a",), [], ["a"], "a" * 201, " " * 201, "a" * 1000)
+NO_SIGNS = ("\t", "\n", "\r", "%", "\x00", "\x1f", "\x7f", "\x80", "\u00e9", "\u00b2", "\u3000", "\U0001f600")
+
 CELLS = ("", "", "7", "42", "-5", "0123456789", "-", "--3", "3-", "-1-", "+4", "1 2", " 8", "9 ", "x", "word",
          "ten  signs", " ", "   ", " a", "b ", "a b", "~", "!", "$&")
 

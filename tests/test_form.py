@@ -19,6 +19,9 @@ INTERFACE = {
         "read_back": ["lines", "told"], "guessed": ["lines"], "judged": ["page", "style", "told"],
     },
     "routes": {"route": ["page", "other"], "stepped": ["page", "style", "steps"]},
+    "paints": {"strokes": ["before", "later"], "painted": ["lines", "drawn"]},
+    "placing": {"placed": ["page", "style", "row"], "gap_within": ["page", "least", "most"]},
+    "notes": {"written": ["page"], "read": ["text"]},
 }
 CLASSES = {
     ("sheets", "Sheet"): {
@@ -29,6 +32,10 @@ CLASSES = {
     ("cursors", "Cursor"): {
         "__init__": ["page", "style"], "at": [], "aside": [], "left": [], "right": [], "up": [], "down": [],
         "back": [], "press": ["sign"], "rub": [], "page": [],
+    },
+    ("hands", "Table"): {
+        "__init__": ["page", "style", "hands"], "press": ["hand", "sign"], "rub": ["hand"], "back": ["hand"],
+        "again": ["hand"], "left": ["hand"], "right": ["hand"], "at": ["hand"], "page": [], "told": [], "begins": [],
     },
 }
 BUILTINS = set("""len range enumerate zip min max sum abs sorted reversed int str bool bytes list tuple dict set

@@ -4,10 +4,8 @@ import re
 import unittest
 
 from tabgrow.laying import guessed, judged, laid, read_back, shown, stops
-from tests.common import NO_LISTS, GrowCase, made_pages, made_styles
+from tests.common import NO_LINES, NO_LISTS, NO_SIGNS, GrowCase, made_pages, made_styles
 
-NO_LINES = (None, True, False, 0, 5, (), ("a",), [], ["a"], "a" * 201, " " * 201, "a" * 1000)
-NO_SIGNS = ("\t", "\n", "\r", "%", "\x00", "\x1f", "\x7f", "\x80", "\u00e9", "\u00b2", "\u3000", "\U0001f600")
 NO_PLACES = (None, True, False, -1, 201, 1000, "1", "", (), (0,), [], [0])
 TRIMMED = ("", "7", "42", "-5", "-", "x", "word", "a b", "two  cells", "0123456789", "~!")
 

@@ -3,8 +3,11 @@
 import unittest
 
 from tabgrow.cursors import Cursor
+from tabgrow.hands import Table
 from tabgrow.laying import judged, laid, shown, stops
-from tabgrow.routes import stepped
+from tabgrow.notes import written
+from tabgrow.placing import gap_within, placed
+from tabgrow.routes import route, stepped
 from tabgrow.sheets import Sheet
 from tabgrow.stretches import stretches
 from tests.common import NO_LISTS, GrowCase
@@ -20,6 +23,38 @@ def stepped_by_none(page, style):
     return stepped(page, style, [None])
 
 
+def placed_of_none(page, style):
+    """placed, of a row that is none: the page and the style are refused ahead of it."""
+    return placed(page, style, None)
+
+
+def table_of_none(page, style):
+    """A table of hands that can't be: the page and the style are refused ahead of them."""
+    return Table(page, style, None)
+
+
+def table(page, style):
+    return Table(page, style, 1)
+
+
+def gap_of_none(page, style):
+    """gap_within, of a least and a number of signs that can't be: the page is refused ahead of them."""
+    return gap_within(page, None, None)
+
+
+def written_alone(page, style):
+    return written(page)
+
+
+def routed_from(page, style):
+    """route to a page that can't be: the first one is refused ahead of it."""
+    return route(page, None)
+
+
+def routed_to(page, style):
+    return route([GOOD], page)
+
+
 def sheet_told(page, style):
     """What a sheet tells that has just been made."""
     sheet = Sheet(page, style)
@@ -32,14 +67,27 @@ def cursor_told(page, style):
     return cursor.page(), cursor.at(), cursor.aside()
 
 
-ASKED = (stretches, stops, laid, shown, judged_by_none, Sheet, Cursor, stepped_by_none)
-TELLING = (stretches, stops, laid, shown, sheet_told, cursor_told)
+def table_told(page, style):
+    """What a table tells that has just been made."""
+    made = Table(page, style, 2)
+    return made.page(), made.begins(), made.told(), made.at(0), made.at(1)
+
+
+def placed_told(page, style):
+    return placed(page, style, page[0])
+
+
+# Those that are handed a page and a style, and those that are handed a page alone.
+ASKED = (stretches, stops, laid, shown, judged_by_none, Sheet, Cursor, stepped_by_none, placed_of_none, table,
+         table_of_none)
+ASKED_OF_PAGES = (gap_of_none, written_alone, routed_from, routed_to)
+TELLING = (stretches, stops, laid, shown, sheet_told, cursor_told, table_told, placed_told, written_alone)
 GOOD = ("a", "b")
 
 
 class BadPages(GrowCase):
     def bad(self, row, page):
-        for call in ASKED:
+        for call in ASKED + ASKED_OF_PAGES:
             self.refuses("BadPage", row, call, page, (1, 0))
             # What is handed in first is refused first.
             self.refuses("BadPage", row, call, page, None)
