@@ -284,7 +284,8 @@ class Painted(GrowCase):
             drawn = []
             for _ in range(chance.randint(0, 8)):
                 signs = "".join(chance.choice("xy ") for _ in range(chance.choice((1, 1, 4, 30))))
-                drawn.append((chance.choice((0, 1, 2, chance.randint(0, 29))), chance.choice((0, 1, 5, 11, 170)), signs))
+                number = chance.choice((0, 1, 2, chance.randint(0, 29)))
+                drawn.append((number, chance.choice((0, 1, 5, 11, 170)), signs))
             self.paints(canvas(lines, drawn), lines, drawn)
 
 
